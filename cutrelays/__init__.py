@@ -1,0 +1,1 @@
+"""Cutrelays: message bodies that are held, cut and sent on by chains of relays."""
