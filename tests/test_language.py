@@ -1,6 +1,7 @@
 """Those rules of the program's language that a short test can see, for each file of the package."""
 
 import ast
+import builtins
 import os
 import re
 import unittest
@@ -9,6 +10,17 @@ import warnings
 ROOT = os.path.dirname(os.path.dirname(os.path.abspath(__file__)))
 PACKAGE = os.path.join(ROOT, "cutrelays")
 LIBRARY = ("heapq", "math", "itertools", "collections", "__future__")
+
+# The builtins that a program may name: those of L8 (but chr, L27, and print: there is no __main__.py) and of L5 and L23.
+BUILTINS = """
+    len range enumerate zip min max sum abs sorted reversed int str bool bytes list tuple dict set frozenset isinstance ord
+    repr any all divmod pow getattr hasattr setattr map iter next type super staticmethod classmethod property
+    Exception ValueError TypeError KeyError IndexError LookupError ZeroDivisionError ArithmeticError OverflowError
+    RuntimeError NotImplementedError AttributeError StopIteration NotImplemented
+""".split()
+
+# A doctest that runs in the same process leaves a builtin _ behind.
+TAKEN = set(dir(builtins)) - {"_"}
 
 
 def files():
@@ -48,6 +60,45 @@ class Language(unittest.TestCase):
             with self.subTest(name=name), warnings.catch_warnings():
                 warnings.simplefilter("error")
                 compile(text, name, "exec")
+
+    def test_builtins(self):
+        for name, text in files().items():
+            used = {node.id for node in nodes(text, ast.Name)} & TAKEN
+            self.assertLessEqual(used, set(BUILTINS), name)
+
+    def test_no_name_has_another_meaning(self):
+        for name, text in files().items():
+            taken = TAKEN | {alias.name for node in nodes(text, ast.ImportFrom) for alias in node.names}
+            taken |= {node.name for node in nodes(text, ast.ClassDef)}
+            given = {node.id for node in nodes(text, ast.Name) if not isinstance(node.ctx, ast.Load)}
+            given |= {node.arg for node in nodes(text, ast.arg)} | {node.name for node in ast.parse(text).body
+                                                                  if isinstance(node, ast.FunctionDef)}
+            self.assertEqual(given & taken, set(), name)
+
+    def test_no_floats_and_no_generator_expressions(self):
+        barred = (ast.Div, ast.GeneratorExp, ast.Global, ast.Await, ast.AsyncFunctionDef)
+        for name, text in files().items():
+            self.assertEqual(nodes(text, barred), [], name)
+            for node in nodes(text, ast.Constant):
+                self.assertNotIsInstance(node.value, (float, complex), name)
+
+    def test_names_are_bound_once_at_module_level(self):
+        for name, text in files().items():
+            bound = [alias.name for node in nodes(text, ast.ImportFrom) for alias in node.names]
+            for node in ast.parse(text).body:
+                if isinstance(node, ast.Assign):
+                    bound += [target.id for target in node.targets]
+                elif isinstance(node, (ast.FunctionDef, ast.ClassDef)):
+                    bound.append(node.name)
+            self.assertEqual(len(bound), len(set(bound)), name)
+
+    def test_no_two_files_import_from_each_other(self):
+        wanted = {name[:-3]: {node.module.partition(".")[2] for node in nodes(text, ast.ImportFrom)}
+                  for name, text in files().items()}
+        while wanted:
+            free = [name for name, sources in wanted.items() if not sources & set(wanted)]
+            self.assertNotEqual(free, [], f"a ring among {sorted(wanted)}")
+            wanted = {name: sources for name, sources in wanted.items() if name not in free}
 
     def test_imports(self):
         for name, text in files().items():

@@ -5,29 +5,7 @@ import itertools
 import unittest
 
 from cutrelays.sendings import is_sending, ordered, reading, troubles, whole_sending
-
-ENDS_OF = {"length": ["open", "shut"], "marks": ["mark", "open", "shut"], "close": ["open", "shut"]}
-
-
-def right_sendings(most):
-    """Return all sendings with values up to most, built in the order of point 3."""
-    found = []
-    for meant in range(most + 1):
-        for units in range(most + 1):
-            for told in range(units, most + 1):
-                found += [(meant, "length", told, units, end) for end in ENDS_OF["length"]]
-            for way in ("marks", "close"):
-                found += [(meant, way, None, units, end) for end in ENDS_OF[way]]
-    return found
-
-
-def deep(depth):
-    """Return an object of tuples, lists and dicts that is nested so deep."""
-    thing = 0
-    for level in range(depth):
-        thing = ((thing,), [thing], {"a": thing})[level % 3]
-    return thing
-
+from tools import ENDS_OF, deep, right_sendings
 
 WRONG_ANYWHERE = [True, False, -1, -10 ** 12, "", "a", "0", [], {}, (), (1,), ["length"], {"open": 1}, deep(19)]
 
