@@ -52,9 +52,9 @@ def followers(kinds, links):
 
 
 def explored(kinds, links, senders, unwanted):
-    """Return what occurs, a dict (place, standing) -> (chain, sending) of its reason, and the bad chain or None.
+    """Return a dict from each pair that occurs to the (chain, sending) of its reason, and the bad (chain, sending).
 
-    If there is a bad chain, the search ends with it, and the dict has not all that occurs.
+    The second one is None if the kinds are safe. Otherwise the search ends there, and the dict lacks some pairs.
     """
     bounds = bounds_of(kinds)
     sendings = starts(senders, bounds)
