@@ -4,7 +4,7 @@ from cutrelays.chains import check_chain
 from cutrelays.errors import Mismatch, NoWord
 from cutrelays.names import is_integer
 from cutrelays.relays import led
-from cutrelays.senders import starts
+from cutrelays.senders import check_senders, starts
 from cutrelays.sendings import troubles
 from cutrelays.standings import bounds_of, settled
 
@@ -32,9 +32,27 @@ def _are_links(thing, kinds):
 
 
 def _is_link(thing, kinds):
-    if not isinstance(thing, tuple) or len(thing) != 2 or not all([is_integer(place) for place in thing]):
+    if not isinstance(thing, tuple) or len(thing) != 2:
         return False
-    return -1 <= thing[0] < len(kinds) and 0 <= thing[1] < len(kinds)
+    ahead, place = thing
+    return is_place(place, kinds) and (is_place(ahead, kinds) or is_integer(ahead) and ahead == -1)
+
+
+def is_place(thing, things):
+    """Return whether any object is a place of a list or tuple."""
+    return is_integer(thing) and 0 <= thing < len(things)
+
+
+def are_places(thing, kinds):
+    """Return whether any object is a tuple of places of some kinds."""
+    return isinstance(thing, tuple) and all([is_place(place, kinds) for place in thing])
+
+
+def check_sources(kinds, links, senders):
+    """Raise what any kinds, links and senders are refused with."""
+    check_kinds(kinds)
+    check_links(links, kinds)
+    check_senders(senders)
 
 
 def check_unwanted(thing):
@@ -68,7 +86,7 @@ def explored(kinds, links, senders, unwanted):
         for chain, number, come in layer:
             for place in behind[chain[-1] if chain else -1]:
                 if (place, come) not in steps:
-                    steps[(place, come)] = _step(kinds[place], come, bounds, unwanted)
+                    steps[(place, come)] = step(kinds[place], come, bounds, unwanted)
                 out, is_bad = steps[(place, come)]
                 if is_bad:
                     bad.append((chain + (place,), number))
@@ -82,8 +100,8 @@ def explored(kinds, links, senders, unwanted):
     return (found, None)
 
 
-def _step(kind, come, bounds, unwanted):
-    # The standing of what a kind sends on, or None, and whether the kind or a reader behind it has unwanted troubles.
+def step(kind, come, bounds, unwanted):
+    """Return the standing of what a kind sends on, or None, and whether it or a reader has unwanted troubles."""
     out, words = led(kind, come)
     if out is None:
         return (None, any([word in unwanted for word in words]))

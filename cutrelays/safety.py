@@ -1,21 +1,20 @@
 """What occurs behind chains of kinds, why, and whether the kinds are safe."""
 
-from cutrelays.graphs import check_kinds, check_links, check_unwanted, explored
+from cutrelays.graphs import check_sources, check_unwanted, explored
 from cutrelays.names import is_integer
-from cutrelays.senders import check_senders
 from cutrelays.sendings import is_sending, order_key
 
 
 def occurring(kinds, links, senders):
     """Return the ascending list of all pairs (place, standing) that occur."""
-    _check_sources(kinds, links, senders)
+    check_sources(kinds, links, senders)
     found, _ = explored(kinds, links, senders, ())
     return _in_order(found)
 
 
 def reason(kinds, links, senders, thing):
     """Return (chain, sending), the least reason why a pair (place, standing) occurs; None for any other object."""
-    _check_sources(kinds, links, senders)
+    check_sources(kinds, links, senders)
     if not _can_occur(thing):
         return None
     found, _ = explored(kinds, links, senders, ())
@@ -24,7 +23,7 @@ def reason(kinds, links, senders, thing):
 
 def bad_chain(kinds, links, senders, unwanted):
     """Return (chain, sending), the least chain with an unwanted trouble, or None if the kinds are safe."""
-    _check_sources(kinds, links, senders)
+    check_sources(kinds, links, senders)
     check_unwanted(unwanted)
     _, bad = explored(kinds, links, senders, unwanted)
     return bad
@@ -37,16 +36,10 @@ def are_safe(kinds, links, senders, unwanted):
 
 def closed_list(kinds, links, senders, unwanted):
     """Return the list of all pairs that occur if the kinds are safe, otherwise None."""
-    _check_sources(kinds, links, senders)
+    check_sources(kinds, links, senders)
     check_unwanted(unwanted)
     found, bad = explored(kinds, links, senders, unwanted)
     return _in_order(found) if bad is None else None
-
-
-def _check_sources(kinds, links, senders):
-    check_kinds(kinds)
-    check_links(links, kinds)
-    check_senders(senders)
 
 
 def _can_occur(thing):

@@ -30,6 +30,12 @@ def sent(sender, meant, units):
     return (meant, way, meant if way == "length" else None, units, stop)
 
 
+def can_come(senders, sending):
+    """Return whether a right sending is one of some right senders."""
+    meant, units = sending[0], sending[3]
+    return any([_can_send(sender, meant, units) and sent(sender, meant, units) == sending for sender in senders])
+
+
 def _can_send(sender, meant, units):
     return units == meant if sender[1] == "none" else units < meant
 

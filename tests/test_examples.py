@@ -5,8 +5,8 @@ import os
 import unittest
 
 FOLDER = os.path.join(os.path.dirname(os.path.abspath(__file__)), "examples")
-# How many examples each stage's file has. (That of stage 8 has those that speak of safety.)
-EXAMPLES = {1: 3, 2: 4, 3: 4, 4: 4, 5: 5, 6: 4, 7: 2, 8: 7}
+# How many examples each stage's file has.
+EXAMPLES = {1: 3, 2: 4, 3: 4, 4: 4, 5: 5, 6: 4, 7: 2, 8: 9, 9: 6, 10: 8, 11: 8}
 
 
 class Examples(unittest.TestCase):

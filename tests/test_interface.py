@@ -51,13 +51,43 @@ FUNCTIONS = {
         "are_safe": ["kinds", "links", "senders", "unwanted"],
         "closed_list": ["kinds", "links", "senders", "unwanted"],
     },
+    "cutrelays.judges": {
+        "shows_bad": ["kinds", "links", "senders", "unwanted", "thing"],
+        "shows_closed": ["kinds", "links", "senders", "unwanted", "thing"],
+    },
+    "cutrelays.contexts": {
+        "pushed_pair": ["one", "other", "bounds"],
+        "parting": ["kinds", "senders", "one", "other"],
+        "likeness": ["kinds", "senders", "one", "other"],
+        "are_alike_everywhere": ["kinds", "senders", "one", "other"],
+        "shows_parting": ["kinds", "senders", "one", "other", "thing"],
+        "shows_likeness": ["kinds", "senders", "one", "other", "thing"],
+    },
+    "cutrelays.mends": {
+        "choices": ["kinds", "changes"],
+        "price_of": ["changes", "choice"],
+        "mended": ["kinds", "changes", "choice"],
+        "cheapest": ["kinds", "links", "senders", "unwanted", "changes"],
+        "shows_cheapest": ["kinds", "links", "senders", "unwanted", "changes", "thing"],
+    },
+    "cutrelays.live": {"is_event": ["thing"], "events_of": ["sending", "pieces", "time"]},
 }
-# Of each class its arguments, and its methods with theirs (but for the object itself).
+# Arguments that are passed by their names.
+NAMED = {"made": ["hold", "over", "whole", "stream", "cut", "wait", "limit", "rest"], "events_of": ["time"]}
+# Of each class its arguments, and its methods with theirs (but for the object itself), or PROPERTY.
+PROPERTY = "property"
 CLASSES = {
     "cutrelays.tables": {
         "Table": (["chain", "bounds"], {
             "empty": ["bounds"], "__getitem__": 1, "__call__": 1, "__contains__": 1, "__len__": 0, "__mul__": 1, "__pow__": 1,
             "__eq__": 1,
+        }),
+    },
+    "cutrelays.live": {
+        "Live": (["relay"], {"__call__": ["self", "event"], "got": PROPERTY, "sent": PROPERTY}),
+        "LiveChain": (["chain"], {
+            "__call__": ["self", "event"], "__len__": 0, "got": PROPERTY, "sent": PROPERTY, "sent_at": ["self", "place"],
+            "read": ["self"],
         }),
     },
 }
@@ -72,7 +102,10 @@ class Interface(unittest.TestCase):
                     function = getattr(module, name)
                     self.assertTrue(inspect.isfunction(function))
                     self.assertEqual(function.__module__, place)
-                    self.assertEqual(list(inspect.signature(function).parameters), arguments)
+                    found = inspect.signature(function).parameters
+                    self.assertEqual(list(found), arguments)
+                    named = [one for one in found if found[one].kind == inspect.Parameter.KEYWORD_ONLY]
+                    self.assertEqual(named, NAMED.get(name, []))
 
     def test_classes(self):
         for place, classes in CLASSES.items():
@@ -86,6 +119,9 @@ class Interface(unittest.TestCase):
                     with self.subTest(name=name, method=method):
                         # Defined in the class itself, not only in one above it.
                         self.assertIn(method, vars(made))
+                        if told == PROPERTY:
+                            self.assertIsInstance(vars(made)[method], property)
+                            continue
                         found = list(inspect.signature(getattr(made, method)).parameters)
                         if isinstance(told, int):
                             self.assertEqual(len(found), told + 1)
