@@ -6,7 +6,7 @@ import unittest
 
 FOLDER = os.path.join(os.path.dirname(os.path.abspath(__file__)), "examples")
 # How many examples each stage's file has.
-EXAMPLES = {1: 3, 2: 4, 3: 4, 4: 4, 5: 5, 6: 4, 7: 2, 8: 9, 9: 6, 10: 8, 11: 8}
+EXAMPLES = {1: 3, 2: 4, 3: 4, 4: 4, 5: 5, 6: 4, 7: 2, 8: 9, 9: 6, 10: 8, 11: 8, 12: 8, 13: 3, 14: 4}
 
 
 class Examples(unittest.TestCase):

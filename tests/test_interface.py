@@ -71,6 +71,16 @@ FUNCTIONS = {
         "shows_cheapest": ["kinds", "links", "senders", "unwanted", "changes", "thing"],
     },
     "cutrelays.live": {"is_event": ["thing"], "events_of": ["sending", "pieces", "time"]},
+    "cutrelays.texts": {
+        "parse_relay": ["text"],
+        "parse_sending": ["text"],
+        "parse_senders": ["text"],
+        "parse_events": ["text"],
+        "format_relay": ["relay"],
+        "format_sending": ["sending"],
+        "format_senders": ["senders"],
+        "format_events": ["events"],
+    },
 }
 # Arguments that are passed by their names.
 NAMED = {"made": ["hold", "over", "whole", "stream", "cut", "wait", "limit", "rest"], "events_of": ["time"]}
@@ -90,6 +100,16 @@ CLASSES = {
             "read": ["self"],
         }),
     },
+    "cutrelays.net": {
+        "Net": (["most"], {
+            "guard": PROPERTY, "of": ["operations", "most"], "do": ["self", "operation"], "all_done": ["self", "operations"],
+            "undo": ["self"], "redo": ["self"], "notes": ["self"], "__getitem__": 1, "__contains__": 1, "__len__": 0,
+            "names": ["self"], "relay_names": ["self"], "chain_of": ["self", "name"], "live": ["self", "name"],
+            "bad": ["self", "senders", "unwanted"], "parting": ["self", "name", "relay", "senders"],
+            "mend": ["self", "changes", "senders", "unwanted"],
+        }),
+    },
+    "cutrelays.console": {"Console": ([], {"execute": ["self", "line"]})},
 }
 
 
