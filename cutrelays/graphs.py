@@ -35,7 +35,7 @@ def _is_link(thing, kinds):
     if not isinstance(thing, tuple) or len(thing) != 2:
         return False
     ahead, place = thing
-    return is_place(place, kinds) and (is_place(ahead, kinds) or is_integer(ahead) and ahead == -1)
+    return is_place(place, kinds) and (ahead == -1 or is_place(ahead, kinds))
 
 
 def is_place(thing, things):

@@ -21,7 +21,7 @@ def _is_word(row):
 
 
 def _is_number(row):
-    if len(row) > LONGEST_NUMBER or not all([sign in DIGITS for sign in row]):
+    if not 1 <= len(row) <= LONGEST_NUMBER or not all([sign in DIGITS for sign in row]):
         return False
     return row == "0" or row[0] != "0"
 
@@ -61,7 +61,7 @@ class Tokens:
 
     def next_is(self, word):
         """Return whether the next token is there and is a word."""
-        return not self.are_over() and self._tokens[self._at][0] == word
+        return self._ahead() == word
 
     def refuse(self):
         """Raise the problem that the text does not go on so."""
@@ -69,28 +69,30 @@ class Tokens:
 
     def word(self, words):
         """Take and return the next token, one of some words."""
-        if self.are_over() or self._tokens[self._at][0] not in words:
+        if self._ahead() not in words:
             self.refuse()
-        return self._taken()
+        token = self._ahead()
+        self._at += 1
+        return token
 
     def number(self, least, most):
         """Take and return the next token, an integer that is not below least, nor above most if there is one."""
-        if self.are_over() or not _is_number(self._tokens[self._at][0]):
+        if not _is_number(self._ahead()):
             self.refuse()
-        value = int(self._tokens[self._at][0])
+        value = int(self._ahead())
         if value < least or most is not None and value > most:
             self.refuse()
-        return int(self._taken())
+        self._at += 1
+        return value
 
     def end(self):
         """Refuse what comes behind the end."""
         if not self.are_over():
             self.refuse()
 
-    def _taken(self):
-        token, _ = self._tokens[self._at]
-        self._at += 1
-        return token
+    def _ahead(self):
+        # The next token, no text if all are taken.
+        return "" if self.are_over() else self._tokens[self._at][0]
 
 
 def parse_relay(text):
@@ -130,11 +132,15 @@ def parse_sending(text):
 
 def parse_senders(text):
     """Return the list of the senders of a text."""
-    tokens = Tokens(text)
-    found = [_sender(tokens)]
+    return _all_parts(Tokens(text), _sender)
+
+
+def _all_parts(tokens, part):
+    # What a function reads of the tokens up to each comma and to the end.
+    found = [part(tokens)]
     while not tokens.are_over():
         tokens.word((",",))
-        found.append(_sender(tokens))
+        found.append(part(tokens))
     return found
 
 
@@ -150,11 +156,7 @@ def parse_events(text):
         tokens.word(("none",))
         tokens.end()
         return []
-    found = [_event(tokens)]
-    while not tokens.are_over():
-        tokens.word((",",))
-        found.append(_event(tokens))
-    return found
+    return _all_parts(tokens, _event)
 
 
 def _event(tokens):

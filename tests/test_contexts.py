@@ -270,6 +270,38 @@ class Partings(unittest.TestCase):
         self.assertEqual(found, ((), (6, "close", None, 6, "shut"), (0,)))
         self.assertEqual(found, slow_parting(kinds, CLOSER, one, other, 2))
 
+    def test_the_least_of_two_rows_ahead_of_the_same_standing(self):
+        # The second kind makes what comes of a lesser sending, the first one of a greater one.
+        kinds = (relay_of(hold=1, over="trim", whole="marks", cut="refuse"), relay_of(whole="marks", cut="whole"))
+        one, other = relay_of(limit=0, rest="leave"), relay_of(limit=0)
+        self.parting(((0,), (3, "length", 3, 2, "shut"), ()), kinds, [("length", "shut")], one, other)
+        self.parting(((0,), (2, "length", 2, 1, "shut"), ()), kinds[::-1], [("length", "shut")], one, other)
+
+    def test_four_relays(self):
+        kinds = (
+            (1, "trim", "length", "marks", "whole", "cut", 1, "leave"),
+            (4, "trim", "close", "close", "pass", "wait", None, "shut"),
+            (1, "stream", "marks", "marks", "refuse", "wait", 2, "shut"),
+        )
+        one, other = [(None, "stream", whole, "marks", "refuse", "cut", 2, "shut") for whole in ("close", "marks")]
+        found = ((1, 2, 1), (6, "length", 6, 5, "open"), (0,))
+        self.assertEqual(slow_parting(kinds, [("length", "open")], one, other, 4), found)
+        self.parting(found, kinds, [("length", "open")], one, other)
+
+    def test_three_relays(self):
+        kinds = ((2, "stream", "length", "same", "refuse", "cut", None, "drain"),
+                 (None, "trim", "marks", "close", "pass", "wait", None, "drain"))
+        one, other = [(2, "trim", "marks", "same", "pass", "cut", 2, rest) for rest in ("drain", "leave")]
+        found = ((0, 1, 1), (4, "length", 4, 3, "open"), ())
+        self.assertEqual(slow_parting(kinds, [("length", "open")], one, other, 3), found)
+        self.parting(found, kinds, [("length", "open")], one, other)
+        kinds = ((0, "trim", "length", "same", "refuse", "wait", 0, "leave"), (1, "trim", "marks", "same", "refuse", "cut", 3, "leave"),
+                 (None, "trim", "close", "same", "pass", "wait", 3, "drain"))
+        one, other = [(0, "stream", "length", stream, "refuse", "wait", None, "leave") for stream in ("same", "marks")]
+        found = ((1, 2), (3, "marks", None, 2, "open"), (0,))
+        self.assertEqual(slow_parting(kinds, [("marks", "open")], one, other, 3), found)
+        self.parting(found, kinds, [("marks", "open")], one, other)
+
     def test_no_senders(self):
         for kinds in ((PLAIN,), (MARKER, SMALL)):
             self.parting(None, kinds, [], PLAIN, ENDER)
@@ -512,6 +544,12 @@ class ShowsLikeness(unittest.TestCase):
                      ((1, "marks", None, 1, "mark"), (1, "marks", None, 0, "mark")),
                      ((1, "marks", None, 1, "open"), (1, "marks", None, 1, "shut"))]:
             self.shows(False, (some, pairs + [pair]))
+
+        # No kind tells these two apart, but a reader behind the two relays would.
+        for one, other, expected in [((1, "marks", None, 1, "shut"), (1, "marks", None, 0, "shut"), False),
+                                     ((1, "marks", None, 1, "shut"), (1, "length", 1, 0, "shut"), False),
+                                     ((1, "marks", None, 0, "shut"), (1, "length", 1, 0, "shut"), True)]:
+            self.shows(expected, ([], [(one, other)]), (REFUSER,), [], PLAIN, PLAIN)
 
     def test_pairs_that_are_not_pushed_down(self):
         some, pairs = likeness(self.KINDS, TELLER, PLAIN, MARKER)

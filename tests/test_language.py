@@ -19,6 +19,17 @@ BUILTINS = """
     RuntimeError NotImplementedError AttributeError StopIteration NotImplemented
 """.split()
 
+# The methods of builtin values that a program may call (the first list of L25), and words that are no names (L17).
+METHODS = """
+    append clear copy count endswith extend find get index insert isalnum isalpha isdigit islower isspace isupper items join
+    keys ljust lower lstrip partition pop remove replace reverse rfind rjust rpartition rsplit rstrip setdefault split
+    splitlines startswith strip update upper values zfill bit_length
+""".split()
+NO_NAMES = """
+    register mro elements open input law version_info with_traceback add_note attrgetter breakpoint builtins compile copyright
+    delattr dir eval exec exit gc globals help id importlib license locals methodcaller os quit vars sys
+""".split()
+
 # A doctest that runs in the same process leaves a builtin _ behind.
 TAKEN = set(dir(builtins)) - {"_"}
 
@@ -99,6 +110,39 @@ class Language(unittest.TestCase):
             free = [name for name, sources in wanted.items() if not sources & set(wanted)]
             self.assertNotEqual(free, [], f"a ring among {sorted(wanted)}")
             wanted = {name: sources for name, sources in wanted.items() if name not in free}
+
+    def test_methods_are_own_ones_or_allowed_ones(self):
+        texts = files().values()
+        own = {node.name for text in texts for node in nodes(text, ast.FunctionDef)}
+        assigned = {node.attr for text in texts for node in nodes(text, ast.Attribute) if isinstance(node.ctx, ast.Store)}
+        for name, text in files().items():
+            for node in nodes(text, ast.Attribute):
+                self.assertIn(node.attr, own | assigned | set(METHODS), f"{name}: {node.lineno}")
+        self.assertEqual(own & assigned, set())
+
+    def test_names_that_are_not_used(self):
+        for name, text in files().items():
+            used = {node.id for node in nodes(text, ast.Name)} | {node.arg for node in nodes(text, (ast.arg, ast.keyword))}
+            used |= {node.name for node in nodes(text, (ast.FunctionDef, ast.ClassDef))}
+            used |= {node.attr for node in nodes(text, ast.Attribute)}
+            self.assertEqual(used & set(NO_NAMES), set(), name)
+
+    def test_is_stands_beside_none_true_and_false(self):
+        for name, text in files().items():
+            for node in nodes(text, ast.Compare):
+                for sign, other in zip(node.ops, node.comparators):
+                    if isinstance(sign, (ast.Is, ast.IsNot)):
+                        self.assertIsInstance(other, ast.Constant, f"{name}: {node.lineno}")
+
+    def test_sets_are_not_gone_through(self):
+        for name, text in files().items():
+            self.assertEqual(nodes(text, (ast.Set, ast.SetComp)), [], name)
+            within = [node.args[0] for node in nodes(text, ast.Call)
+                      if isinstance(node.func, ast.Name) and node.func.id in ("sorted", "len")]
+            made = [node for node in ast.walk(ast.parse(text)) if isinstance(node, ast.Call)
+                    and isinstance(node.func, ast.Name) and node.func.id == "set"]
+            self.assertEqual(len(made), sum(isinstance(node, ast.Call) and getattr(node.func, "id", "") == "set"
+                                            for node in within), name)
 
     def test_imports(self):
         for name, text in files().items():

@@ -491,6 +491,9 @@ class Guards(NetCase):
         net = Net.of(put(*"abcdefg"))
         self.undoable(net, ("guard", (), ()), Mismatch)
         self.undoable(net, GUARD, Mismatch)
+        self.undoable(net, ("guard", [], []), NoSender)
+        self.undoable(net, ("guard", (), []), NoWord)
+        self.undoable(net, ("guard", (), ("lost", "lost")), NoWord)
         net.do(("drop", "g"))
         net.do(GUARD)
 
