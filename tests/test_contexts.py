@@ -277,6 +277,18 @@ class Partings(unittest.TestCase):
         self.parting(((0,), (3, "length", 3, 2, "shut"), ()), kinds, [("length", "shut")], one, other)
         self.parting(((0,), (2, "length", 2, 1, "shut"), ()), kinds[::-1], [("length", "shut")], one, other)
 
+    def test_two_relays_behind(self):
+        # The first kind cuts what waits, and only of what is cut does the second one tell the two ways apart.
+        cutter, picker = relay_of(wait="cut"), relay_of(limit=2, rest="drain", cut="whole")
+        one, other, senders = relay_of(hold=0), relay_of(hold=0, stream="marks"), [("length", "open")]
+        found = ((), (3, "length", 3, 1, "open"), (0, 1))
+        self.assertEqual(slow_parting((cutter, picker), senders, one, other, 2), found)
+        self.parting(found, (cutter, picker), senders, one, other)
+        self.parting(found[:2] + ((1, 0),), (picker, cutter), senders, one, other)
+        self.parting(found[:2] + ((1, 0),), (picker, cutter, cutter), senders, one, other)
+        self.parting(None, (picker,), senders, one, other)
+        self.parting(None, (cutter,), senders, one, other)
+
     def test_four_relays(self):
         kinds = (
             (1, "trim", "length", "marks", "whole", "cut", 1, "leave"),
